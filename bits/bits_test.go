@@ -163,6 +163,12 @@ func TestP1_4Pad(t *testing.T) {
 	if l, e := bits.Pad(row("1001"), 4); e != api.OK || !slices.Equal(l, row("1001")) {
 		t.Error("Pad of a whole one:", l, e)
 	}
+	if l, e := bits.Pad(row("101"), 1); e != api.OK || !slices.Equal(l, row("101")) {
+		t.Error("Pad by 1:", l, e)
+	}
+	if n, e := bits.Distance(make([]bool, api.MaxBits), make([]bool, api.MaxBits)); n != 0 || e != api.OK {
+		t.Error("Distance of the longest:", n, e)
+	}
 	if l, e := bits.Pad(nil, 4096); e != api.OK || len(l) != 0 {
 		t.Error("Pad of none:", l, e)
 	}

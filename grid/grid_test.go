@@ -77,6 +77,9 @@ func TestP2_1Check(t *testing.T) {
 	if at, e := grid.Check([]api.Sample{good, {V: complex(neg, neg), Lost: true}}); at != 0 || e != api.OK {
 		t.Error("Check:", at, e)
 	}
+	if at, e := grid.Check(make([]api.Sample, api.MaxSamples)); at != 0 || e != api.OK {
+		t.Error("Check of as many as may be:", at, e)
+	}
 	if at, e := grid.Check(make([]api.Sample, api.MaxSamples+1)); at != 0 || e != api.ErrArg {
 		t.Error("Check of too many:", at, e)
 	}
@@ -178,6 +181,9 @@ func TestP2_3Forms(t *testing.T) {
 		if got, e := grid.Of([]float64{3, x}); got != (grid.Form{}) || e != api.ErrArg {
 			t.Error("Of:", x, got, e)
 		}
+	}
+	if _, e := grid.Of(make([]float64, api.MaxSamples)); e != api.OK {
+		t.Error("Of as many as may be:", e)
 	}
 	if _, e := grid.Of(make([]float64, api.MaxSamples+1)); e != api.ErrArg {
 		t.Error("Of too many:", e)

@@ -168,8 +168,14 @@ func TestP3_5Classes(t *testing.T) {
 	if n, e := (G{}).Depth(); n != 0 || e != api.ErrNone {
 		t.Error("Depth of 0:", n, e)
 	}
-	if _, e := (G{1<<30 + 1, 0}).Depth(); e != api.ErrArg {
-		t.Error("Depth:", e)
+	if n, e := (G{1<<30 + 1, 0}).Depth(); n != 0 || e != api.ErrArg {
+		t.Error("Depth:", n, e)
+	}
+	if n, e := (G{-1 << 30, -1 << 30}).Norm(); n != 1<<61 || e != api.OK {
+		t.Error("Norm of the least parts:", n, e)
+	}
+	if c, e := (G{1 << 30, 1<<30 + 1}).Class(3); c != 0 || e != api.ErrArg {
+		t.Error("Class:", c, e)
 	}
 	for _, depth := range []int{-1, 31, math.MinInt} {
 		if _, e := (G{}).Class(depth); e != api.ErrArg {

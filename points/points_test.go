@@ -45,11 +45,11 @@ func TestP4_1Sets(t *testing.T) {
 		}
 	}
 	for _, size := range wrong {
-		if _, e := points.Bits(size); e != api.ErrArg {
-			t.Error("Bits:", size, e)
+		if n, e := points.Bits(size); n != 0 || e != api.ErrArg {
+			t.Error("Bits:", size, n, e)
 		}
-		if _, e := points.Edge(size); e != api.ErrArg {
-			t.Error("Edge:", size, e)
+		if n, e := points.Edge(size); n != 0 || e != api.ErrArg {
+			t.Error("Edge:", size, n, e)
 		}
 		if l, e := points.All(size); l != nil || e != api.ErrArg {
 			t.Error("All:", size, e)
@@ -86,13 +86,13 @@ func TestP4_2Labels(t *testing.T) {
 			if z, e := points.At(size, label); z != 0 || e != api.ErrArg {
 				t.Error("At:", size, label, z, e)
 			}
-			if _, e := points.Turned(size, label, 1); e != api.ErrArg {
-				t.Error("Turned:", size, label, e)
+			if n, e := points.Turned(size, label, 1); n != 0 || e != api.ErrArg {
+				t.Error("Turned:", size, label, n, e)
 			}
 		}
 	}
-	if _, e := points.Label(5, 1); e != api.ErrArg {
-		t.Error("Label:", e)
+	if n, e := points.Label(5, 1); n != 0 || e != api.ErrArg {
+		t.Error("Label:", n, e)
 	}
 	if n, e := points.Turned(4, 0, 1); n != 2 || e != api.OK {
 		t.Error("Turned:", n, e)
