@@ -93,6 +93,10 @@ func TestP28_1Bounds(t *testing.T) {
 			t.Error("NewReceiver:", c, e)
 		}
 	}
+	one, _ := again.NewReceiver(1)
+	if l, a, e := one.Take(data(0, strings.Repeat("x", 240))); len(l) != 1 || a != answer(1) || e != api.OK {
+		t.Error("the longest body:", len(l), e)
+	}
 	s := sender(t, 128, math.MaxInt64, strings.Repeat("x", 240))
 	if e := s.Offer(strings.Repeat("x", 241)); e != api.ErrArg {
 		t.Error("Offer:", e)

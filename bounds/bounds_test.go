@@ -17,7 +17,7 @@ func TestTaps(t *testing.T) {
 			t.Error("taps:", l)
 		}
 	}
-	for _, l := range [][]complex128{nil, {2}, {1.0 / 128}, {1, 1, 1, 1, 1.0 / 64}, {complex(nan, 0)}, {complex(0, inf)}, {65.0 / 64}, make([]complex128, api.MaxTaps+1)} {
+	for _, l := range [][]complex128{nil, {2}, {1.0 / 128}, {1, 1, 1, 1, 1.0 / 64}, {complex(nan, 0)}, {complex(0, inf)}, {65.0 / 64}, {2i}, {1 + 1i, 1 + 1i, 1.0 / 64}, make([]complex128, api.MaxTaps+1)} {
 		if bounds.Taps(l) {
 			t.Error("no taps:", l)
 		}
@@ -46,7 +46,7 @@ func TestFirst(t *testing.T) {
 			}
 		}
 	}
-	for _, z := range []complex128{0, 0.125, 2, 1 + 1i, 0.5i + 0.25, complex(nan, 0), complex(0, inf), complex(1, nan)} {
+	for _, z := range []complex128{0, 0.125, 2, 1 + 1i, 0.5i + 0.25, -0.5 + 0.5i, -0.5 - 0.5i, 0.5 - 0.5i, -1i - 0.25, complex(nan, 0), complex(0, inf), complex(1, nan)} {
 		if s, q, ok := bounds.First(z); s != 0 || q != 0 || ok {
 			t.Error("no first tap:", z, s, q, ok)
 		}

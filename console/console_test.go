@@ -94,7 +94,7 @@ func TestP32_1Orders(t *testing.T) {
 	does(t, c, "calm ab | calm ba | strait ba 0 64 0 | code - | send - | decode 6869 0 | receive ba - | hear ab -", "ok | ok | ok | ok 0000000000000000000000000000000000000000000000000000000000000000000000000000000000000000000000000000000000000000"+checks+" | ok 279 | error 1 | ok - | ok 3 4 0 0 64 0")
 	does(t, c, "receive ab "+strings.Repeat("00", 51)+" | receive ab "+strings.Repeat("00", 50), "error 1 | ok "+strings.Repeat("00", 50))
 	does(t, c, "close | state a | round | rounds 0 | offer a 68", "error 2 | error 2 | error 2 | error 2 | error 2")
-	does(t, c, "open | pulse hill 9 | block 0 0 0 0 0 0 0 | link 0 0 0 0 0 0 | open | rounds 201 | rounds -1 | rounds 200 | offer b 6869706869706869706869706869706869 | offer b 68697068697068697068697068697068 | offer b - | state b", "ok | error 5 | error 5 | error 5 | error 5 | error 1 | error 1 | ok 0 0 | error 1 | ok 1 | ok 2 | ok 0 2 0")
+	does(t, c, "open | pulse hill 9 | block 0 0 0 0 0 0 0 | link 0 0 0 0 0 0 | open | rounds 201 | rounds -1 | rounds 200 | rounds 1 | offer b 6869706869706869706869706869706869 | offer b 68697068697068697068697068697068 | offer b - | state b", "ok | error 5 | error 5 | error 5 | error 5 | error 1 | error 1 | ok 0 0 | ok 0 0 | error 1 | ok 1 | ok 2 | ok 0 2 0")
 	does(t, c, "strait ab 9 0 64 | noise ab 1 1 | burst ab 0 1 lost | rounds 3 | state a | close | state a", "ok | ok 1 | ok 1 | ok 3 2 | a 68697068697068697068697068697068 | a - | ok 3 0 2 | ok | error 2")
 	coded := c.Do("code 666f67")[0][3:]
 	does(t, c, "decode "+coded+" | decode ff"+coded[2:]+" | decode ffffffff"+coded[8:]+" 3 0 2 1 | decode ffffffff"+coded[8:]+" | decode "+coded+" 60 | decode "+coded+" 1 1", "ok 666f67 0 | ok 666f67 1 | ok 666f67 0 | error 9 | error 1 | error 1")
@@ -148,6 +148,12 @@ func TestP32_2Scripts(t *testing.T) {
 	n := (console.MaxTold-head)/one + 1
 	if n > 19 || len(big) != head+n*one+len("error 3\n") || !strings.HasSuffix(big, "\nerror 3\n") {
 		t.Error("more than may be told:", len(big), n, one)
+	}
+	exact := "block 256 1 1 4096 255 230 2\ncalm ab\n" + strings.Repeat("code 00\n", 8)
+	rest := console.MaxTold - len("ok 32768\nok\n") - 8*one
+	exact += strings.Repeat("receive ab "+strings.Repeat("00", (rest/2-4)/2)+"\n", 2)
+	if s := console.Text(exact); len(s) != console.MaxTold || console.Text(exact+"room") != s+"ok 32768\n" || console.Text(exact+"room\nroom") != s+"ok 32768\nerror 3\n" {
+		t.Error("just as much as may be told:", len(s))
 	}
 	if l := console.Run(slices.Repeat([]string{"room"}, api.MaxSteps+2)); len(l) != api.MaxSteps+2 || l[api.MaxSteps+1][0] != "ok 50" {
 		t.Error("Run of many:", len(l))

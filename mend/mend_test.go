@@ -108,7 +108,7 @@ func TestP20_3Locator(t *testing.T) {
 		n      int
 		want   []uint8
 		e      api.Errno
-	}{{[]int{2}, 3, []uint8{1, 1}, api.OK}, {[]int{0, 2}, 3, []uint8{1, 5, 4}, api.OK}, {nil, 3, []uint8{1}, api.OK}, {nil, 0, nil, api.ErrArg}, {nil, 256, nil, api.ErrArg}, {[]int{3}, 3, nil, api.ErrArg}, {[]int{-1}, 3, nil, api.ErrArg}, {[]int{1, 1}, 3, nil, api.ErrArg}} {
+	}{{[]int{2}, 3, []uint8{1, 1}, api.OK}, {[]int{0, 2}, 3, []uint8{1, 5, 4}, api.OK}, {nil, 3, []uint8{1}, api.OK}, {nil, 1, []uint8{1}, api.OK}, {nil, 0, nil, api.ErrArg}, {nil, 256, nil, api.ErrArg}, {[]int{3}, 3, nil, api.ErrArg}, {[]int{-1}, 3, nil, api.ErrArg}, {[]int{1, 1}, 3, nil, api.ErrArg}} {
 		if p, e := mend.Locator(c.places, c.n); e != c.e || !slices.Equal(p, c.want) {
 			t.Error("Locator:", c, p, e)
 		}

@@ -16,6 +16,7 @@ import (
 	"foghorn/plane"
 	"foghorn/pulse"
 	"foghorn/shore"
+	"foghorn/strait"
 	"foghorn/train"
 )
 
@@ -53,7 +54,7 @@ func TestP31_1Check(t *testing.T) {
 		e api.Errno
 	}{
 		{small, api.OK}, {changed(func(p *P) { p.Side = 1 }), api.OK}, {changed(func(p *P) { p.Window = 2 }), api.ErrArg}, {changed(func(p *P) { p.Side = 2 }), api.ErrArg}, {changed(func(p *P) { p.Side = -1 }), api.ErrArg}, {changed(func(p *P) { p.Wait = 0 }), api.ErrArg}, {changed(func(p *P) { p.Wait = math.MaxInt64 }), api.OK},
-		{changed(func(p *P) { p.Renew = 2 }), api.ErrArg}, {changed(func(p *P) { p.Renew = -3 }), api.ErrArg}, {changed(func(p *P) { p.Renew = 3 }), api.OK}, {changed(func(p *P) { p.Body = 16 }), api.OK}, {changed(func(p *P) { p.Body = 17 }), api.ErrArg}, {changed(func(p *P) { p.Body = -1 }), api.ErrArg}, {changed(func(p *P) { p.Window = 0 }), api.ErrArg},
+		{changed(func(p *P) { p.Renew = 2 }), api.ErrArg}, {changed(func(p *P) { p.Renew = -3 }), api.ErrArg}, {changed(func(p *P) { p.Renew = 3 }), api.OK}, {changed(func(p *P) { p.Body = 16 }), api.OK}, {changed(func(p *P) { p.Body = 0 }), api.OK}, {changed(func(p *P) { p.Body = 17 }), api.ErrArg}, {changed(func(p *P) { p.Body = -1 }), api.ErrArg}, {changed(func(p *P) { p.Window = 0 }), api.ErrArg},
 		{changed(func(p *P) { p.Order = 0 }), api.ErrArg}, {changed(func(p *P) { p.Order = 9 }), api.ErrArg}, {changed(func(p *P) { p.Echo = 65 }), api.ErrArg}, {changed(func(p *P) { p.Echo = -1 }), api.ErrArg}, {changed(func(p *P) { p.Echo = 64 }), api.OK}, {changed(func(p *P) { p.Block = bad }), api.ErrTaps}, {changed(func(p *P) { p.Block, p.Side = bad, 9 }), api.ErrTaps}, {P{}, api.ErrArg},
 		{changed(func(p *P) { p.Window, p.Body = math.MaxInt, math.MaxInt }), api.ErrArg},
 	} {
@@ -205,6 +206,29 @@ func TestP31_3Examples(t *testing.T) {
 	}
 }
 
+func TestP31_3Own(t *testing.T) {
+	p := changed(func(p *P) { p.Block.Pulse.Taps = []float64{1} })
+	a, b := station(t, p, 0), station(t, p, 1)
+	p.Block.Pulse.Taps[0] = 0.5 // what was handed in is not kept
+	s := api.Strait{Rate: 1, Taps: Z{1}, Echo: Z{1}}
+	for range 2 {
+		if _, _, e := shore.Exchange(a, b, s, s, nil, nil, nil, nil); e != api.OK {
+			t.Fatal("Exchange:", e)
+		}
+	}
+	a.Offer("a")
+	b.Offer("b")
+	row, _ := a.Say()
+	other, _ := b.Say()
+	l, e := strait.Arrive(s, other, row, nil, nil, 400)
+	for i := range row {
+		row[i] = 64 // nor is what was handed out
+	}
+	if got, f := a.Hear(l); !slices.Equal(got, []string{"b"}) || e != api.OK || f != api.OK {
+		t.Error("Hear without what was said:", got, e, f)
+	}
+}
+
 func TestP31_4Exchange(t *testing.T) {
 	a, b := station(t, small, 0), station(t, small, 1)
 	bad, burst := api.Strait{Rate: 1}, []api.Burst{{At: -1}}
@@ -227,6 +251,15 @@ func TestP31_4Exchange(t *testing.T) {
 	}
 	if _, e := b.Say(); e != api.OK {
 		t.Error("Say:", e)
+	}
+	a, b = station(t, changed(func(p *P) { p.Echo = 0 }), 0), station(t, changed(func(p *P) { p.Echo = 0 }), 1)
+	a.Offer("hi")
+	slow := api.Strait{Rate: 1, Delay: 700, Taps: Z{1}}
+	if _, y, e := shore.Exchange(a, b, slow, plain, nil, nil, nil, nil); !slices.Equal(y, []string{"hi"}) || e != api.OK {
+		t.Error("all of a late row comes in:", y, e)
+	}
+	if _, _, e := shore.Exchange(a, b, plain, slow, nil, nil, nil, nil); a.Left() != 0 || e != api.OK {
+		t.Error("a late answer:", a.Left(), e)
 	}
 	late := station(t, changed(func(p *P) { p.Echo = 0 }), 0)
 	far := station(t, changed(func(p *P) { p.Echo = 0 }), 1)

@@ -82,7 +82,7 @@ func TestP5_2Decide(t *testing.T) {
 		}
 	}
 	for _, size := range sizes {
-		for _, z := range []complex128{complex(nan, 0), complex(0, nan), complex(inf, 0), complex(0, -inf), complex(inf, -inf)} {
+		for _, z := range []complex128{complex(nan, 0), complex(0, nan), complex(inf, 0), complex(-inf, 0), complex(0, inf), complex(0, -inf), complex(inf, -inf)} {
 			if d, e := slice.Decide(size, z); d != (slice.Decision{Lost: true}) || e != api.OK {
 				t.Error("lost:", size, z, d, e)
 			}

@@ -155,6 +155,9 @@ func TestP29_3Shown(t *testing.T) {
 	if got := text.Show("\u0085\x7f\ufffd\x1f \u00a0"); got != "\\xc2\\x85\\x7f\ufffd\\x1f \u00a0" {
 		t.Error("Show:", got)
 	}
+	if got := text.Show("\u0080\u009f~\x7f"); got != `\xc2\x80\xc2\x9f~\x7f` {
+		t.Error("Show:", got)
+	}
 	if runes, broken := text.Runes("a\xff\\\né"); runes != 4 || broken != 1 {
 		t.Error("Runes:", runes, broken)
 	}
