@@ -176,11 +176,35 @@ func TestP28_3Receiver(t *testing.T) {
 	}
 }
 
+// link carries frames: some are lost, some come twice, some late.
+type link struct {
+	*rand.Rand
+	loss, late int
+	flying     map[int64][]api.Frame // by when they come
+}
+
+func (l link) send(now int64, f api.Frame) {
+	for range 1 + l.Intn(2) {
+		if l.Intn(100) >= l.loss {
+			at := now + int64(l.Intn(l.late+1))
+			l.flying[at] = append(l.flying[at], f)
+		}
+	}
+}
+
+func (l link) come(now int64) []api.Frame {
+	out := l.flying[now]
+	delete(l.flying, now)
+	l.Shuffle(len(out), func(i, j int) { out[i], out[j] = out[j], out[i] })
+	return out
+}
+
 func TestP28_4To6Lossy(t *testing.T) {
 	r := rand.New(rand.NewSource(1))
-	for round := range 40 {
-		window, wait, n := []int{1, 2, 7, 128}[r.Intn(4)], int64(1+r.Intn(6)), r.Intn(700)
-		loss := r.Intn(3) * 30
+	for range 60 {
+		window, wait, n := []int{1, 2, 7, 30, 128}[r.Intn(5)], int64(1+r.Intn(6)), r.Intn(700)
+		loss, late := r.Intn(3)*30, r.Intn(max(1, min(6, 256/window-1)))
+		there, back := link{r, loss, late, map[int64][]api.Frame{}}, link{r, loss, late, map[int64][]api.Frame{}}
 		s := sender(t, window, wait)
 		got, _ := again.NewReceiver(window)
 		for i := range n {
@@ -191,27 +215,26 @@ func TestP28_4To6Lossy(t *testing.T) {
 		sent := 0
 		for now := int64(0); s.Left() > 0; now++ {
 			if now > 100000 {
-				t.Fatal("no end:", window, wait, n, loss)
+				t.Fatal("no end:", window, wait, n, loss, late)
 			}
 			frames, _ := s.Tick(now)
 			for _, f := range frames {
-				if at, ok := last[f.Number]; ok && now-at < wait && window < 100 {
+				if at, ok := last[f.Number]; ok && now-at < wait && window < 30 {
 					t.Fatal("sent again too soon:", f.Number)
 				}
 				last[f.Number] = now
 				sent++
-				for range 1 + r.Intn(2) { // sometimes twice
-					if r.Intn(100) < loss {
-						continue
-					}
-					l, a, e := got.Take(f)
-					if up = append(up, l...); e != api.OK {
-						t.Fatal("Take:", e)
-					}
-					if r.Intn(100) >= loss {
-						s.Hear(a)
-					}
+				there.send(now, f)
+			}
+			for _, f := range there.come(now) {
+				l, a, e := got.Take(f)
+				if up = append(up, l...); e != api.OK {
+					t.Fatal("Take:", e)
 				}
+				back.send(now, a)
+			}
+			for _, f := range back.come(now) {
+				s.Hear(f)
 			}
 		}
 		for i, body := range up {
@@ -219,8 +242,8 @@ func TestP28_4To6Lossy(t *testing.T) {
 				t.Fatal("out of order:", i, body)
 			}
 		}
-		if len(up) != n || loss == 0 && sent != n {
-			t.Fatal("all, once:", round, len(up), n, sent)
+		if len(up) != n || loss == 0 && int64(2*late) < wait && sent != n {
+			t.Fatal("all, once:", window, wait, late, len(up), n, sent)
 		}
 	}
 }
